@@ -10,6 +10,8 @@ const (
 
 func Wrap(n int) int { return n & (wordCount - 1) }
 
+func isWord(n int) bool { return n == Wrap(n) }
+
 func Signed(n int) int {
 	w := Wrap(n)
 	if w >= signFrom {
