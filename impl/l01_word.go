@@ -12,9 +12,12 @@ func Wrap(n int) int { return n & (wordCount - 1) }
 
 func isWord(n int) bool { return n == Wrap(n) }
 
+// hasSign wants a word.
+func hasSign(word int) bool { return word >= signFrom }
+
 func Signed(n int) int {
 	w := Wrap(n)
-	if w >= signFrom {
+	if hasSign(w) {
 		return w - wordCount
 	}
 	return w

@@ -561,7 +561,13 @@ func machWithRoom() impl.Mach {
 // checkNewMemory wants answers that share no memory with m or each other, and m as it was, with what lies behind its lists.
 func checkNewMemory(t *testing.T, what string, answer func(m impl.Mach) impl.Mach) {
 	t.Helper()
-	m, was := machWithRoom(), machWithRoom()
+	checkNewMemoryOf(t, what, machWithRoom, answer)
+}
+
+// checkNewMemoryOf wants start to make the same at each call, with machWithRoom's numbers behind its lists.
+func checkNewMemoryOf(t *testing.T, what string, start func() impl.Mach, answer func(m impl.Mach) impl.Mach) {
+	t.Helper()
+	m, was := start(), start()
 	x := answer(m)
 	want := copyOfMach(x)
 	if !sameMach(m, was) {
