@@ -2,7 +2,6 @@ package tests
 
 import (
 	"go/ast"
-	"go/importer"
 	"go/types"
 	"math"
 	"slices"
@@ -463,16 +462,8 @@ func isMemoryMethod(o types.Object) bool {
 
 // Memory is an array that a machine embeds, whose methods are promoted.
 func TestMemoryIsAnArrayWhoseMethodsArePromoted(t *testing.T) {
-	fset, byName := programFiles(t)
-	var files []*ast.File
-	for _, f := range byName {
-		files = append(files, f)
-	}
 	info := &types.Info{Selections: map[*ast.SelectorExpr]*types.Selection{}}
-	check := types.Config{Importer: importer.ForCompiler(fset, "source", nil)}
-	if _, err := check.Check("loop.example/g00329/impl", fset, files, info); err != nil {
-		t.Fatal(err)
-	}
+	typedFiles(t, info)
 	for _, s := range info.Selections {
 		if s.Kind() == types.MethodVal && len(s.Index()) > 1 && isMemoryMethod(s.Obj()) {
 			return

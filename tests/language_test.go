@@ -2,8 +2,10 @@ package tests
 
 import (
 	"go/ast"
+	"go/importer"
 	"go/parser"
 	"go/token"
+	"go/types"
 	"path/filepath"
 	"strings"
 	"testing"
@@ -31,6 +33,21 @@ func programFiles(t *testing.T) (*token.FileSet, map[string]*ast.File) {
 		files[filepath.Base(p)] = f
 	}
 	return fset, files
+}
+
+// typedFiles fills info with what the type checker finds in the program.
+func typedFiles(t *testing.T, info *types.Info) map[string]*ast.File {
+	t.Helper()
+	fset, byName := programFiles(t)
+	var files []*ast.File
+	for _, f := range byName {
+		files = append(files, f)
+	}
+	check := types.Config{Importer: importer.ForCompiler(fset, "source", nil)}
+	if _, err := check.Check("loop.example/g00329/impl", fset, files, info); err != nil {
+		t.Fatal(err)
+	}
+	return byName
 }
 
 func TestProgramKeepsToItsLanguage(t *testing.T) {
