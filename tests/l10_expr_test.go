@@ -659,7 +659,7 @@ func cutTerm(l []string) ([]string, int) {
 			return nil, 0
 		}
 		return rest[1:], max(first, second) + 1
-	case z == "." || !strings.ContainsAny(z, ":+-*/&|<>.") && !slices.Contains(keptTexts, z):
+	case z == "." || !strings.ContainsAny(z, ":=,()+-*/&|#@.<>") && !slices.Contains(keptTexts, z):
 		return l[1:], 1
 	}
 	return nil, 0
