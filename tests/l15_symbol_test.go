@@ -386,11 +386,39 @@ func TestLinesBehindTheEnd(t *testing.T) {
 		}
 		checkSymbolsOf(t, append(slices.Clone(l), behind...), tableText(tab))
 	}
-	// An end that is not right is a line that is not right, and ends nothing.
-	for _, x := range []impl.Line{{K: impl.LEnd, S: "a"}, {K: impl.LEnd, N: 1}, {K: impl.LEnd, Op: 1}, {K: impl.LEnd, L: []impl.Expr{numExpr(1)}}, {K: impl.LEnd, Src: impl.Arg{Reg: 1}}, {K: impl.LEnd, Dst: impl.Arg{Form: 1}}} {
-		checkSymbolsNot(t, []impl.Line{x}, impl.ErForm, 0)
-		checkSymbolsNot(t, []impl.Line{{}, x, end}, impl.ErForm, 1)
-		checkSymbolsOf(t, []impl.Line{end, x}, "| code:0 |")
+}
+
+// Nothing is asked of the line that ends the others, whatever else stands in it.
+func TestWhatTheEndHasInIt(t *testing.T) {
+	ends := []impl.Line{
+		{K: impl.LEnd, S: "a"}, {K: impl.LEnd, S: "mov"}, {K: impl.LEnd, S: "\x00"}, {K: impl.LEnd, N: 1}, {K: impl.LEnd, N: -1}, {K: impl.LEnd, Op: 1}, {K: impl.LEnd, Op: -1}, {K: impl.LEnd, Op: impl.OHalt},
+		{K: impl.LEnd, Src: impl.Arg{Reg: 1}}, {K: impl.LEnd, Dst: impl.Arg{Form: 1}}, {K: impl.LEnd, Dst: impl.Arg{Form: 99, Reg: -1}}, {K: impl.LEnd, Src: impl.Arg{Form: impl.AImm, E: numExpr(1)}},
+		{K: impl.LEnd, L: []impl.Expr{}}, {K: impl.LEnd, L: []impl.Expr{numExpr(1)}}, {K: impl.LEnd, L: []impl.Expr{symExpr("none")}}, {K: impl.LEnd, L: make([]impl.Expr, 300)}, {K: impl.LEnd, L: []impl.Expr{ring(1, hereExpr)}}, {K: impl.LEnd, L: []impl.Expr{chain(1000000, hereExpr)}},
+		{K: impl.LEnd, S: "a", N: 65536, Op: impl.OMov, Src: impl.Arg{Form: 6}, Dst: impl.Arg{Form: 7}, L: wrongTerms()},
+	}
+	aheads := map[string]string{
+		"":                                  "| code:0 |",
+		"a :\n":                             "a=s0 | code:0 |",
+		"halt\n.sect d\na :\n.globl b\n":    "a=s1 | code:1 d:0 | b",
+		".blkw 400\n.sect o , over\nhalt\n": "| code:256 o!:1 |",
+	}
+	for _, end := range ends {
+		for s, want := range aheads {
+			ahead := readLines(t, s)
+			checkSymbolsOf(t, slices.Concat(ahead, []impl.Line{end}), want)
+			checkSymbolsOf(t, slices.Concat(ahead, []impl.Line{{}, end, {K: 9}}), want)
+			checkSymbolsOf(t, slices.Concat(ahead, []impl.Line{end, {K: impl.LEnd}, {K: impl.LLabel, S: "a"}, {K: impl.LLabel, S: "a"}}), want)
+			// A line ahead of it that is wrong is told of, and it never is.
+			checkSymbolsNot(t, slices.Concat(ahead, []impl.Line{{K: 9}, end}), impl.ErForm, len(ahead))
+			checkSymbolsNot(t, slices.Concat(ahead, []impl.Line{{}, {K: impl.LWord}, end, {K: 9}}), impl.ErForm, len(ahead)+1)
+		}
+	}
+	// The same of a line of any other kind is wrong.
+	for _, end := range ends[:4] {
+		for _, k := range []int{impl.LNone, impl.LEnd - 1, impl.LEnd + 1, -impl.LEnd} {
+			end.K = k
+			checkSymbolsNot(t, []impl.Line{{}, end, {K: impl.LEnd}}, impl.ErForm, 1)
+		}
 	}
 }
 
@@ -701,7 +729,7 @@ type wrongLine struct {
 
 func wrongLines(t *testing.T) []wrongLine {
 	var l []wrongLine
-	for _, x := range []impl.Line{{K: 9}, {K: -1}, {N: 1}, {K: impl.LLabel}, {K: impl.LLabel, S: "mov"}, {K: impl.LLabel, S: "a", N: 1}, {K: impl.LSet, S: "c"}, {K: impl.LSet, S: "c", L: []impl.Expr{sectExpr(0)}}, {K: impl.LSet, S: "c", L: []impl.Expr{globExpr("a")}}, {K: impl.LIns}, {K: impl.LIns, Op: impl.OBr}, {K: impl.LWord}, {K: impl.LWord, L: slices.Repeat([]impl.Expr{numExpr(1)}, 7)}, {K: impl.LBlk}, {K: impl.LBlk, L: []impl.Expr{numExpr(1), numExpr(1)}}, {K: impl.LBlk, L: []impl.Expr{numExpr(65536)}}, {K: impl.LSect, S: "d", N: 2}, {K: impl.LSect}, {K: impl.LGlob}, {K: impl.LGlob, L: []impl.Expr{numExpr(1)}}, {K: impl.LEnd, S: "a"}} {
+	for _, x := range []impl.Line{{K: 9}, {K: -1}, {N: 1}, {K: impl.LLabel}, {K: impl.LLabel, S: "mov"}, {K: impl.LLabel, S: "a", N: 1}, {K: impl.LSet, S: "c"}, {K: impl.LSet, S: "c", L: []impl.Expr{sectExpr(0)}}, {K: impl.LSet, S: "c", L: []impl.Expr{globExpr("a")}}, {K: impl.LIns}, {K: impl.LIns, Op: impl.OBr}, {K: impl.LWord}, {K: impl.LWord, L: slices.Repeat([]impl.Expr{numExpr(1)}, 7)}, {K: impl.LBlk}, {K: impl.LBlk, L: []impl.Expr{numExpr(1), numExpr(1)}}, {K: impl.LBlk, L: []impl.Expr{numExpr(65536)}}, {K: impl.LSect, S: "d", N: 2}, {K: impl.LSect}, {K: impl.LGlob}, {K: impl.LGlob, L: []impl.Expr{numExpr(1)}}, {K: impl.LEnd + 1}, {S: "a"}} {
 		l = append(l, wrongLine{x, impl.ErForm})
 	}
 	for s, code := range map[string]int{
@@ -894,11 +922,11 @@ func (w *toldTable) text() string {
 func wantSymbols(l []impl.Line) (string, int, int) {
 	w := newToldTable()
 	for at, x := range l {
-		if code := w.code(x); code != impl.ErNone {
-			return tableText(impl.Table{}), code, at
-		}
 		if x.K == impl.LEnd {
 			break
+		}
+		if code := w.code(x); code != impl.ErNone {
+			return tableText(impl.Table{}), code, at
 		}
 		w.take(x)
 	}
@@ -948,7 +976,7 @@ func (w *toldTable) tellingLine(next func(n int) int) impl.Line {
 		return blkLine([]int{0, 1, 5, 20, 20, 60, 100, 255, 256}[next(9)*next(9)/8])
 	case 9:
 		if next(6) == 0 {
-			return impl.Line{K: impl.LEnd}
+			return impl.Line{K: impl.LEnd, N: next(2)}
 		}
 	}
 	x := anyLine(next)
