@@ -904,7 +904,7 @@ func (w *toldTable) take(x impl.Line) {
 	w.sects[w.in].words += wordsTold(x)
 }
 
-func (w *toldTable) text() string {
+func (w *toldTable) table() impl.Table {
 	var tab impl.Table
 	for i, name := range w.names {
 		tab.Syms = append(tab.Syms, impl.Sym{Name: name, E: w.vals[i]})
@@ -916,21 +916,30 @@ func (w *toldTable) text() string {
 		tab.Globs = append(tab.Globs, name)
 	}
 	slices.Sort(tab.Globs)
-	return tableText(tab)
+	return tab
 }
 
-func wantSymbols(l []impl.Line) (string, int, int) {
+// toldOf goes up to the first line that a code refuses; it has no place where there is none.
+func toldOf(l []impl.Line) (*toldTable, int, int) {
 	w := newToldTable()
 	for at, x := range l {
 		if x.K == impl.LEnd {
 			break
 		}
 		if code := w.code(x); code != impl.ErNone {
-			return tableText(impl.Table{}), code, at
+			return w, code, at
 		}
 		w.take(x)
 	}
-	return w.text(), impl.ErNone, -1
+	return w, impl.ErNone, -1
+}
+
+func wantSymbols(l []impl.Line) (string, int, int) {
+	w, code, at := toldOf(l)
+	if code != impl.ErNone {
+		return tableText(impl.Table{}), code, at
+	}
+	return tableText(w.table()), code, at
 }
 
 // termOver is of these leaves, and others at times.
