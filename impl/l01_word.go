@@ -23,15 +23,22 @@ func Signed(n int) int {
 	return w
 }
 
+// addWords and addText write into the spare room behind b: they are for bytes of the program's own.
+func addWords(b []byte, words ...int) []byte {
+	for _, n := range words {
+		w := Wrap(n)
+		b = append(b, byte(w&255), byte(w>>8))
+	}
+	return b
+}
+
+func addText(b []byte, s string) []byte { return append(addWords(b, len(s)), s...) }
+
 // putWords works on a copy: an append to b itself could write into the spare room behind it.
 func putWords(b []byte, words ...int) []byte {
 	out := make([]byte, len(b), len(b)+2*len(words))
 	copy(out, b)
-	for _, n := range words {
-		w := Wrap(n)
-		out = append(out, byte(w&255), byte(w>>8))
-	}
-	return out
+	return addWords(out, words...)
 }
 
 func PutW(b []byte, n int) []byte { return putWords(b, n) }
@@ -48,7 +55,7 @@ func PutText(b []byte, s string) []byte {
 	if len(s) > maxText {
 		return putWords(b)
 	}
-	return append(putWords(b, len(s)), s...)
+	return addText(putWords(b), s)
 }
 
 // GetText refuses a length above maxText, too: no PutText makes such bytes.
